@@ -132,7 +132,7 @@ func TestSumsFromManySides(t *testing.T) {
 	var group sync.WaitGroup
 	got := make([]uint32, 16)
 	for i := range got {
-		group.Go(func() { got[i] = impl.SumOf("123456789") })
+		group.Go(func() { got[i] = impl.SumMore(impl.SumOf("1234"), "56789") })
 	}
 	group.Wait()
 	for i, sum := range got {
