@@ -217,8 +217,8 @@ func TestRoundToThatIsKnown(t *testing.T) {
 // finePlaces: numbers are held against each other as whole numbers, in units of 2^-finePlaces.
 const finePlaces = 5010
 
-// fineOfSize: what a size stands for; Infinite counts as the next one, one step beyond the greatest.
-func fineOfSize(size uint64) *big.Int {
+// leastUnits: what a size stands for, in units of the least number above 0; Infinite counts as the next one, one step beyond the greatest.
+func leastUnits(size uint64) *big.Int {
 	e, f := size/fValues, size%fValues
 	if e == 0 {
 		e = 1
@@ -226,7 +226,12 @@ func fineOfSize(size uint64) *big.Int {
 		f += fValues
 	}
 	n := new(big.Int).SetUint64(f)
-	return n.Lsh(n, uint(e-1)+finePlaces-1074)
+	return n.Lsh(n, uint(e-1))
+}
+
+func fineOfSize(size uint64) *big.Int {
+	n := leastUnits(size)
+	return n.Lsh(n, finePlaces-1074)
 }
 
 // roundByRule looks for the nearest size among all; above is how many of 1024 parts of 2^exp more stands for.
