@@ -34,12 +34,15 @@ func allKinds() []int {
 	return []int{1, 2, 3, 4, 5, 6, 7, 8, 9, 10, 11, 12, 13, 20, 21, 22, 23, 24, 25, 26, 27, 28, 29}
 }
 
-// rolesOf: for each part of a node, its number and what it is to be.
+// rolesOf: for each part of a node, its number and what it is to be; f, a function, is what a NodeLet with B 1 has.
 func rolesOf(node impl.Node) ([]int, string) {
 	ahead, listed, _ := strings.Cut(partsOfKinds[node.Kind], "*")
 	parts := []int{node.A, node.B, node.C}[:len(ahead)]
 	if ahead == "ebx" && node.C == -1 {
 		parts, ahead = parts[:2], "eb"
+	}
+	if node.Kind == impl.NodeLet && node.B == 1 {
+		ahead = "f"
 	}
 	if listed == "" {
 		return parts, ahead
@@ -55,6 +58,8 @@ func roleAllows(role byte, kind int) bool {
 		return kind == 29
 	case 'x':
 		return kind == 29 || kind == 23
+	case 'f':
+		return kind == 13
 	}
 	return kind >= 20 && kind <= 28
 }
@@ -416,7 +421,9 @@ func (s *shrub) dress(node *impl.Node) {
 	case impl.NodeBinary:
 		node.C = 1 + s.below(11)
 	case impl.NodeLet:
-		node.B = s.below(2)
+		if s.tree[node.A].Kind == impl.NodeFun {
+			node.B = s.below(2)
+		}
 	}
 	switch namesOfKinds[node.Kind] {
 	case "n":
@@ -521,6 +528,7 @@ func TestTreesThatAreKnown(t *testing.T) {
 
 func TestTreesBySteps(t *testing.T) {
 	kinds := map[int]int{}
+	early := 0
 	for seed := range 600 {
 		tree := treeBySteps(20+seed%281, seed)
 		if len(tree) != 20+seed%281 {
@@ -529,7 +537,13 @@ func TestTreesBySteps(t *testing.T) {
 		checkRight(t, tree)
 		for _, node := range tree {
 			kinds[node.Kind]++
+			if node.Kind == impl.NodeLet {
+				early += node.B
+			}
 		}
+	}
+	if early < 50 {
+		t.Errorf("there are but %d functions told with their names", early)
 	}
 	for _, kind := range allKinds() {
 		if kinds[kind] < 100 {
@@ -617,7 +631,7 @@ func TestFieldsThatAreNotUsed(t *testing.T) {
 			if ahead == "" {
 				checkSpoiled(t, with(tree, at, func(node *impl.Node) { node.A = value }))
 			}
-			if len(ahead) < 2 && (kind != impl.NodeLet || value != 1) {
+			if len(ahead) < 2 {
 				checkSpoiled(t, with(tree, at, func(node *impl.Node) { node.B = value }))
 			}
 			if len(ahead) < 3 && kind != impl.NodeBinary {
@@ -916,16 +930,40 @@ func TestTextsInTrees(t *testing.T) {
 }
 
 func TestFlagOfLet(t *testing.T) {
-	tree, at := smallTree(impl.NodeLet)
-	var m maker
-	function := m.closed(m.grow(impl.NodeLet, 0, impl.NodeFun))
-	for _, flag := range []int{0, 1} {
-		checkRight(t, with(tree, at, func(node *impl.Node) { node.B = flag }))
-		checkRight(t, with(function, len(function)-2, func(node *impl.Node) { node.B = flag }))
+	for _, kind := range allKinds()[:13] {
+		var m maker
+		at := m.grow(impl.NodeLet, 0, kind)
+		tree := m.closed(at)
+		flagged := func(flag int) []impl.Node {
+			return with(tree, at, func(node *impl.Node) { node.B = flag })
+		}
+		checkRight(t, flagged(0))
+		if kind == impl.NodeFun {
+			checkRight(t, flagged(1))
+		} else {
+			checkSpoiled(t, flagged(1))
+		}
+		for _, flag := range []int{-1, 2, 3, 256, 257, 1 << 32, 1<<32 + 1, math.MinInt, math.MaxInt} {
+			checkSpoiled(t, flagged(flag))
+		}
 	}
-	for _, flag := range []int{-1, 2, 3, 256, 257, 1 << 32, math.MinInt, math.MaxInt} {
-		checkSpoiled(t, with(tree, at, func(node *impl.Node) { node.B = flag }))
-		checkSpoiled(t, with(function, len(function)-2, func(node *impl.Node) { node.B = flag }))
+}
+
+// What is within the function, or around it, tells nothing of the flag: it is the NodeLet's own A that counts.
+func TestFlagOfLetAsksForItsOwnValue(t *testing.T) {
+	within := []impl.Node{
+		{Kind: impl.NodeBlock}, {Kind: impl.NodeFun}, {Kind: impl.NodeCall, A: 1}, {Kind: impl.NodeLet, A: 2, Names: []string{"x"}}, {Kind: impl.NodeBlock, List: []int{3}},
+		{Kind: impl.NodeFun, A: 4}, {Kind: impl.NodeLet, A: 5, Names: []string{"f"}}, {Kind: impl.NodeBlock, List: []int{6}},
+	}
+	setFlag := func(node *impl.Node) { node.B = 1 }
+	checkRight(t, within)
+	checkRight(t, with(within, 6, setFlag))
+	checkSpoiled(t, with(within, 3, setFlag))
+	checkSpoiled(t, with(with(within, 3, setFlag), 6, setFlag))
+	for at := range within {
+		if at != 6 {
+			checkSpoiled(t, with(within, at, setFlag))
+		}
 	}
 }
 
