@@ -189,8 +189,8 @@ func checkMarked(t *testing.T, marked string) scopes {
 	return s
 }
 
-// checkScopeFault: the first fault is this one, at the node of this Kind that stands where the `@`, which is taken out, stands.
-func checkScopeFault(t *testing.T, marked string, fault int, kind int) {
+// faultMarked: the tree of a program, and its node of this Kind that stands where the `@`, which is taken out, stands.
+func faultMarked(t *testing.T, marked string, kind int) ([]impl.Node, int) {
 	t.Helper()
 	ahead, behind, found := strings.Cut(marked, "@")
 	tree := parsedTree(t, ahead+behind)
@@ -198,6 +198,13 @@ func checkScopeFault(t *testing.T, marked string, fault int, kind int) {
 	if !found || node < 0 {
 		t.Fatalf("%q tells no node", marked)
 	}
+	return tree, node
+}
+
+// checkScopeFault: the first fault is this one, at the node that is marked.
+func checkScopeFault(t *testing.T, marked string, fault int, kind int) {
+	t.Helper()
+	tree, node := faultMarked(t, marked, kind)
 	if s := checkScopes(t, tree); s.fault != fault || s.node != node {
 		t.Errorf("%q has the fault %d at %d, want %d at %d", marked, s.fault, s.node, fault, node)
 	}
