@@ -87,11 +87,11 @@ func sealedByRule(inner string) string {
 }
 
 func imageTextByRule(x impl.Image) (string, bool) {
-	inner := innerOf(piecesOf(x))
-	if !imageByRule(x) || len(inner) > 12000 {
+	text := sealedByRule(innerOf(piecesOf(x)))
+	if !imageByRule(x) || len(text) > 12000 {
 		return "", false
 	}
-	return sealedByRule(inner), true
+	return text, true
 }
 
 // taker takes bytes for whatever they may be; it panics at their end.

@@ -332,7 +332,7 @@ func imageOfSize(size int) impl.Image {
 	return x
 }
 
-// What is sealed may have MaxText bytes, and no more.
+// What is answered, the seal with it, may have MaxText bytes, and no more.
 func TestImagesOfMostBytes(t *testing.T) {
 	for size := 11783; size <= 12040; size++ {
 		x := imageOfSize(size)
@@ -340,7 +340,7 @@ func TestImagesOfMostBytes(t *testing.T) {
 		if !imageByRule(x) || len(inner) != size {
 			t.Fatalf("the image of %d bytes is not as it should be", size)
 		}
-		if size <= 12000 {
+		if size+4 <= impl.MaxText {
 			if text := imageTextOf(t, x); len(text) != size+4 {
 				t.Errorf("of %d bytes there are %d with the seal", size, len(text))
 			}
@@ -354,6 +354,45 @@ func TestImagesOfMostBytes(t *testing.T) {
 		refusesToRead(t, "an image that is too long", sealedByRule(innerOf(piecesOf(imageOfSize(size)))))
 	}
 	refusesToRead(t, "the greatest image", sealedByRule(innerOf(piecesOf(greatestImage()))))
+}
+
+// imageWithWide: 14 Funcs, with 300 instructions each, but the last with 69; its text has 11999 bytes, and one more for each
+// of the last Func's instructions whose A takes two bytes.
+func imageWithWide(wide int) impl.Image {
+	var x impl.Image
+	for i := range 14 {
+		size := 300
+		if i == 13 {
+			size = 69
+		}
+		x.Funcs = append(x.Funcs, impl.Func{Code: slices.Repeat([]impl.Ins{{Op: impl.InsConst}}, size)})
+	}
+	for i := range wide {
+		x.Funcs[13].Code[i].A = 128
+	}
+	return x
+}
+
+// Texts of just MaxText bytes, and of one more up to those whose bytes ahead of the seal are too many by themselves.
+func TestTextsOfJustTheMostBytes(t *testing.T) {
+	for wide := range 12 {
+		x := imageWithWide(wide)
+		sealed := sealedByRule(innerOf(piecesOf(x)))
+		if !impl.ImageOk(x) || len(sealed) != 11999+wide {
+			t.Fatalf("the image with %d has %d bytes", wide, len(sealed))
+		}
+		text, ok := impl.ImageText(x)
+		back, read := impl.ReadImage(sealed)
+		if wide <= 1 {
+			if !ok || text != sealed || !read || !sameImages(back, x) {
+				t.Errorf("of %d bytes ImageText is %v, ReadImage %v", len(sealed), ok, read)
+			}
+			continue
+		}
+		if ok || text != "" || read || len(back.Funcs) > 0 || len(back.Consts) > 0 {
+			t.Errorf("of %d bytes ImageText is %v, ReadImage %v", len(sealed), ok, read)
+		}
+	}
 }
 
 func TestImagesThatAreNotRightHaveNoBytes(t *testing.T) {
@@ -434,7 +473,7 @@ func TestByteOfAnImageTurned(t *testing.T) {
 }
 
 func TestByteOfTheLongestImageTurned(t *testing.T) {
-	text := []byte(imageTextOf(t, imageOfSize(12000)))
+	text := []byte(imageTextOf(t, imageOfSize(11996)))
 	for at := range text {
 		turn := byte(1 << (at % 8))
 		if at%3 == 0 {
@@ -485,9 +524,11 @@ func TestBytesThatAreLeft(t *testing.T) {
 		}
 		refusesToRead(t, "sealed twice", sealedByRule(sealedByRule(inner)))
 		refusesToRead(t, "one image behind another", sealedByRule(inner)+sealedByRule(inner))
-		room := strings.Repeat("\x00", 12000-len(inner))
+		room := strings.Repeat("\x00", 11996-len(inner))
 		refusesToRead(t, "as many bytes are left as there may be", sealedByRule(inner+room))
-		refusesToRead(t, "more bytes are left than there may be", sealedByRule(inner+room+"\x00"))
+		for size := 1; size <= 5; size++ {
+			refusesToRead(t, "more bytes are left than there may be", sealedByRule(inner+room+strings.Repeat("\x00", size)))
+		}
 	}
 }
 
@@ -882,7 +923,7 @@ func TestReadImagesAreNewMemory(t *testing.T) {
 	samples := samplesOfBytes(t)
 	x := allSorts()
 	x.Consts[5].Text = "another text"
-	for _, x := range append(samples, x, imageOfSize(12000)) {
+	for _, x := range append(samples, x, imageOfSize(11996)) {
 		text := imageTextOf(t, x)
 		kept := strings.Clone(text)
 		first, _ := impl.ReadImage(text)
