@@ -11,7 +11,7 @@ import (
 	"loop.example/g00115/impl"
 )
 
-// Promise 14: what is compiled is right. (What the verifier lets in is chapter 16's.)
+// Promise 14: what is compiled is right, and the verifier lets it in.
 
 var wordsOfOps = strings.Fields("const get put newcell getcell putcell getcap putcap binary not minus jump ifnot if fun call return throw print")
 
@@ -98,6 +98,9 @@ func checkCompile(t *testing.T, tree []impl.Node) (impl.Image, int, int) {
 	}
 	if right := impl.ImageOk(x); right != (fault == 0) || right != (impl.CodeSize(x) > 0) {
 		t.Fatalf("with the fault %d ImageOk is %v, of %s", fault, right, toldOfImage(x))
+	}
+	if unsound := impl.Verify(x); fault == 0 && unsound != -1 {
+		t.Fatalf("Verify is %d, of\n%s", unsound, toldOfCode(x))
 	}
 	return x, fault, node
 }
