@@ -1260,6 +1260,28 @@ func TestStatesBySteps(t *testing.T) {
 	}
 }
 
+// turn changes one part of the code of an image.
+func (d *dice) turn(x *impl.Image) {
+	f := &x.Funcs[d.below(len(x.Funcs))]
+	i := &f.Code[d.below(len(f.Code))]
+	switch d.below(8) {
+	case 0:
+		i.Op = 1 + d.below(19)
+	case 1:
+		i.B = d.below(4)
+	case 2:
+		f.Regs = max(f.Regs-1, f.Params)
+	case 3:
+		f.Code = f.Code[:1+d.below(len(f.Code))]
+	case 4:
+		f.Handlers = append(f.Handlers, impl.Handler{From: d.below(len(f.Code)), To: d.below(len(f.Code) + 2), Target: d.below(len(f.Code) + 1)})
+	case 5:
+		f.Code = slices.Delete(f.Code, 0, 1+d.below(len(f.Code))/9)
+	default:
+		i.A = d.below(len(f.Code) + 1)
+	}
+}
+
 // Programs with one number of their code turned.
 func TestStatesOfCodeThatIsTurned(t *testing.T) {
 	right, wrong := 0, 0
@@ -1269,27 +1291,7 @@ func TestStatesOfCodeThatIsTurned(t *testing.T) {
 		if !ok {
 			continue
 		}
-		x = changedImage(x, func(x *impl.Image) {
-			f := &x.Funcs[d.below(len(x.Funcs))]
-			i := &f.Code[d.below(len(f.Code))]
-			switch d.below(8) {
-			case 0:
-				i.Op = 1 + d.below(19)
-			case 1:
-				i.B = d.below(4)
-			case 2:
-				f.Regs = max(f.Regs-1, f.Params)
-			case 3:
-				f.Code = f.Code[:1+d.below(len(f.Code))]
-			case 4:
-				f.Handlers = append(f.Handlers, impl.Handler{From: d.below(len(f.Code)), To: d.below(len(f.Code) + 2), Target: d.below(len(f.Code) + 1)})
-			case 5:
-				f.Code = slices.Delete(f.Code, 0, 1+d.below(len(f.Code))/9)
-			default:
-				i.A = d.below(len(f.Code) + 1)
-			}
-		})
-		if got := checkVerify(t, x); got == -1 {
+		if got := checkVerify(t, changedImage(x, d.turn)); got == -1 {
 			right++
 		} else if got >= 0 {
 			wrong++

@@ -102,7 +102,7 @@ func (s *stroll) value(at int, names *bound) impl.Value {
 }
 
 func (s *stroll) made(node impl.Node, names *bound) impl.Value {
-	s.functions = append(s.functions, func(handed []impl.Value) impl.Value {
+	return s.add(func(handed []impl.Value) {
 		inner := names
 		for i, name := range node.Names {
 			inner = &bound{name: name, ahead: inner}
@@ -110,9 +110,16 @@ func (s *stroll) made(node impl.Node, names *bound) impl.Value {
 				inner.value = one
 			}
 		}
+		s.block(node.A, inner)
+	})
+}
+
+// add: a function that does this.
+func (s *stroll) add(do func(handed []impl.Value)) impl.Value {
+	s.functions = append(s.functions, func(handed []impl.Value) impl.Value {
 		s.going++
 		defer func() { s.going-- }()
-		left, _ := leftBy(func() { s.block(node.A, inner) }, 1)
+		left, _ := leftBy(func() { do(handed) }, 1)
 		return left.value
 	})
 	return funValue(len(s.functions) - 1)
@@ -123,6 +130,11 @@ func (s *stroll) called(node impl.Node, names *bound) impl.Value {
 	for _, part := range node.List {
 		all = append(all, s.value(part, names))
 	}
+	return s.entered(all)
+}
+
+// entered: a call of the first value, with the others.
+func (s *stroll) entered(all []impl.Value) impl.Value {
 	if all[0].Kind != 4 {
 		panic(leaving{2, textOf("call")})
 	}
@@ -188,7 +200,12 @@ func (s *stroll) print(text string) {
 // strolledOver: what the program of a tree does, that is right and without faults.
 func strolledOver(tree []impl.Node, fuel int) impl.Outcome {
 	s := stroll{tree: tree, fuel: fuel}
-	left, is := leftBy(func() { s.block(len(tree)-1, nil) }, 1, 2, 3, 4)
+	return s.outcome(func() { s.block(len(tree)-1, nil) })
+}
+
+// outcome: that of a program that does this.
+func (s *stroll) outcome(do func()) impl.Outcome {
+	left, is := leftBy(do, 1, 2, 3, 4, 5)
 	if !is {
 		left.end = 1
 	}

@@ -50,7 +50,7 @@ func goesOnAs(less impl.Outcome, more impl.Outcome) bool {
 	return sameOutcomes(less, more)
 }
 
-// checkEachFuel: a walk with every fuel from 0 to what the program takes, and one more.
+// checkEachFuel: a walk with every fuel from 0 to what the program takes, and one more; and that the machine does the same.
 func checkEachFuel(t *testing.T, tree []impl.Node) {
 	t.Helper()
 	most := checkWalk(t, tree, impl.MaxFuel)
@@ -66,6 +66,7 @@ func checkEachFuel(t *testing.T, tree []impl.Node) {
 		}
 		before = next
 	}
+	checkRunsAsWalked(t, tree)
 }
 
 // checkOnly holds a program with just this fuel against what it is known to do.
@@ -77,6 +78,9 @@ func checkOnly(t *testing.T, source string, fuel int, want string) {
 	}
 	if walked := checkWalk(t, parsedTree(t, source), fuel); !sameOutcomes(walked, got) {
 		t.Errorf("%q with %d of fuel: %s, but its tree %s", source, fuel, toldOfOutcome(got), toldOfOutcome(walked))
+	}
+	if ran, code := impl.RunSource(source, fuel); code != 0 || toldOfOutcome(ran) != want {
+		t.Errorf("%q with %d of fuel is run: %s, %d,\nwant %s, 0", source, fuel, toldOfOutcome(ran), code, want)
 	}
 }
 
