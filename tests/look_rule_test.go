@@ -9,7 +9,7 @@ import (
 )
 
 // What is shown of code by other means: each Op has a line of a text, in which its numbers are filled in; the places that
-// jumps lead to are looked for one by one, from the first place of the code to the last; Logs are compared as texts.
+// jumps lead to are looked for one by one, from the first place that there may be to the last; Logs are compared as texts.
 
 // linesOfOps: A and B stand for the numbers of the instruction.
 const linesOfOps = `
@@ -77,7 +77,7 @@ func jumpsByRule(x impl.Image, fun int) []int {
 	if !imageByRule(x) || !isPlace(fun, len(x.Funcs)) {
 		return places
 	}
-	for place := range x.Funcs[fun].Code {
+	for place := range 301 {
 		if jumpsTo(x.Funcs[fun].Code, place) {
 			places = append(places, place)
 		}

@@ -4,6 +4,7 @@ import (
 	"fmt"
 	"math"
 	"slices"
+	"strconv"
 	"strings"
 	"testing"
 
@@ -89,15 +90,15 @@ func (l *lookedAt) check(t *testing.T, x impl.Image) {
 			l.withoutJumps++
 		}
 		for n, place := range places {
-			if place < 0 || place >= len(f.Code) || n > 0 && place <= places[n-1] {
+			// A place beyond the code is of jumps that are not reached.
+			if isBeyond := place >= len(f.Code); place < 0 || place > impl.MaxCode || n > 0 && place <= places[n-1] || isBeyond && told == len(f.Code) {
 				t.Fatalf("JumpsOf is %v of\n%s", places, toldOfFunc(f))
+			} else if isBeyond {
+				l.beyond++
 			}
 		}
 		for _, i := range f.Code {
 			l.ops[i.Op]++
-			if strings.Contains("jump ifnot if", wordsOfOps[i.Op-1]) && i.A >= len(f.Code) {
-				l.beyond++
-			}
 		}
 	}
 }
@@ -381,29 +382,49 @@ func TestJumpsOfKnownCode(t *testing.T) {
 	checkJumps(t, "0/3: newcell 1, getcell 1, putcell 1, getcap 1, putcap 1, const 1, not, minus, throw, print, return")
 }
 
-// Beyond the code is no place, though a jump that is not reached, or is in a Func that is not sound, may lead there.
+// A place that a jump tells is told, whether or not the code goes as far as that, and whether or not the jump is reached.
 func TestJumpsBeyondTheCode(t *testing.T) {
 	for _, jump := range []string{"jump", "if", "ifnot"} {
-		checkJumps(t, "0/0: const 0, return, "+jump+" 2", 2)
-		for _, beyond := range []string{"3", "4", "299", "300"} {
-			checkJumps(t, "0/0: const 0, return, "+jump+" "+beyond)
-			checkJumps(t, "0/0: "+jump+" "+beyond)
-			checkJumps(t, "0/0: const 0, "+jump+" "+beyond+", jump 1", 1)
-			checkJumps(t, "0/0: const 0, jump 2, "+jump+" "+beyond, 2)
+		for _, beyond := range []int{4, 5, 299, 300} {
+			to := jump + " " + strconv.Itoa(beyond)
+			// Reached.
+			checkJumps(t, "0/0: const 0, "+to+", print, return", beyond)
+			checkJumps(t, "0/0: const 0, if 3, "+to+", return", 3, beyond)
+			checkJumps(t, "0/0: const 0, "+to+", if 0, return", 0, beyond)
+			checkJumps(t, "0/0: const 0, if "+strconv.Itoa(beyond)+", "+to+", return", beyond)
+			checkJumps(t, "0/0: const 0, ifnot 300, "+to+", jump 1", slices.Compact([]int{1, beyond, 300})...)
+			// Not reached.
+			checkJumps(t, "0/0: const 0, return, "+to+", print", beyond)
+			checkJumps(t, "0/0: const 0, return, "+to+", jump 3", 3, beyond)
+			checkJumps(t, "0/0: const 0, return, ifnot 2, "+to, 2, beyond)
+			checkJumps(t, "0/0: const 0, throw, "+to+", if "+strconv.Itoa(beyond), beyond)
+			checkJumps(t, "0/0: const 0, return, "+to+", jump 300", slices.Compact([]int{beyond, 300})...)
+			// A reached one within the code beside one beyond it that is not, and the other way round.
+			checkJumps(t, "0/0: const 0, jump 1, "+to+", print", 1, beyond)
+			checkJumps(t, "0/0: const 0, "+to+", return, jump 2", 2, beyond)
 		}
+		// Just behind the last instruction, which is the jump itself, too.
+		checkJumps(t, "0/0: "+jump+" 1", 1)
+		checkJumps(t, "0/0: "+jump+" 300", 300)
+		checkJumps(t, "0/0: const 0, return, "+jump+" 3", 3)
 	}
-	long := func(places ...int) impl.Image {
+	checkJumps(t, "0/4: const 0, return, jump 9", 9)
+	checkJumps(t, "0/4: jump 300, if 0, ifnot 2, jump 0", 0, 2, 300)
+	checkJumps(t, "0/4: ifnot 7, if 7, get 3, jump 4", 4, 7)
+	// What other instructions and Handlers tell beyond the code is no place of a jump.
+	checkJumps(t, "0/0 {0-300>300 2-9>9}: const 300, get 5, call 7 8, fun 9, jump 6", 6)
+}
+
+// The greatest code has all places but one within it, and that one is told like others.
+func TestJumpsOfTheGreatestCode(t *testing.T) {
+	for _, c := range []struct{ to, want []int }{
+		{[]int{299}, []int{299}}, {[]int{300}, []int{300}}, {[]int{300, 299, 298, 0}, []int{0, 298, 299, 300}}, {[]int{0, 300, 150, 0, 300, 150, 299}, []int{0, 150, 299, 300}},
+	} {
 		x := smallImage()
 		x.Funcs[0].Code = slices.Repeat([]impl.Ins{insOf("not")}, 300)
-		for at, place := range places {
+		for at, place := range c.to {
 			x.Funcs[0].Code[at*7].Op, x.Funcs[0].Code[at*7].A = impl.InsJump+at%3, place
 		}
-		return x
-	}
-	for _, c := range []struct{ to, want []int }{
-		{[]int{299}, []int{299}}, {[]int{300}, nil}, {[]int{300, 299, 298, 0}, []int{0, 298, 299}}, {[]int{0, 300, 150, 0, 300, 150, 299}, []int{0, 150, 299}},
-	} {
-		x := long(c.to...)
 		if got := impl.JumpsOf(x, 0); !slices.Equal(got, c.want) {
 			t.Errorf("JumpsOf is %v, want %v", got, c.want)
 		}
